@@ -1,0 +1,1 @@
+"""Laidover: heaps of points laid over one another, by exact shares."""
