@@ -102,9 +102,7 @@ def leading(a, b, c, d):
         raise NoThing("one point alone does not settle a motion")
     if gap_between(a, b) != gap_between(c, d):
         raise NoThing("the points are not as far apart")
-    here, there = difference(b, a), difference(d, c)
-    plain = bringing(quotient(there, here), 0, a, c)
-    return (plain, bringing(quotient(there, flipped(here)), 1, a, c))
+    return both_leading(a, b, c, d)
 
 
 def shifting(p, q):
@@ -158,6 +156,25 @@ def joined(one, other):
 def bringing(turn, flip, p, q):
     """The motion with this turn and flip that leads p to q."""
     return (turn, difference(q, product(turn, faced(p, flip))), flip)
+
+
+def both_leading(a, b, c, d):
+    """Both motions that lead a to c and b to d, unchecked."""
+    here, there = difference(b, a), difference(d, c)
+    plain = bringing(quotient(there, here), 0, a, c)
+    return (plain, bringing(quotient(there, flipped(here)), 1, a, c))
+
+
+def leading_to_pairs(a, b, pairs):
+    """All motions that lead a and b to some of these pairs, either way round.
+
+    The points of each pair are as far apart as a and b.
+    """
+    found = []
+    for c, d in pairs:
+        found.extend(both_leading(a, b, c, d))
+        found.extend(both_leading(a, b, d, c))
+    return found
 
 
 def lowest_line(a, b, c):

@@ -5,7 +5,7 @@ trust what they are handed: they are called with points that are checked.
 """
 
 from laidover.errors import BadPoint
-from laidover.numbers import common_divisor, is_whole, share
+from laidover.numbers import common_divisor, common_multiple, is_whole, share
 
 
 def point(x, y, w=1):
@@ -94,3 +94,20 @@ def quotient(p, q):
 def flipped(p):
     """p with its second part turned about."""
     return (p[0], -p[1], p[2])
+
+
+def in_order(points):
+    """The list of these points in order."""
+    below = common_multiple([p[2] for p in points])
+    return sorted(points, key=lambda p: place_over(p, below))
+
+
+def rows_in_order(rows):
+    """Rows of points, told apart point by point in order."""
+    below = common_multiple([p[2] for row in rows for p in row])
+    return sorted(rows, key=lambda row: [place_over(p, below) for p in row])
+
+
+def place_over(p, below):
+    """The tops of both parts of p over this below, which its w divides."""
+    return (p[0] * (below // p[2]), p[1] * (below // p[2]))

@@ -16,6 +16,12 @@ BUILTINS = set(
     " StopIteration NotImplemented".split()
 )
 
+METHODS = set(
+    "append clear copy count endswith extend find get index insert isalnum isalpha isdigit islower isspace isupper"
+    " items join keys ljust lower lstrip partition pop remove replace reverse rfind rjust rpartition rsplit rstrip"
+    " setdefault split splitlines startswith strip update upper values zfill bit_length".split()
+)
+
 BARRED_WORDS = (
     r"\b(type|typing|typing_extensions|enum|Enum|IntEnum|StrEnum|Flag|IntFlag|Generic|Protocol|ABC|ABCMeta"
     r"|namedtuple|NamedTuple|TypedDict|TYPE_CHECKING|abstractmethod)\b|dataclass|overload|contextmanager"
@@ -114,6 +120,21 @@ class TestLanguage(unittest.TestCase):
                 defined = list(top_names(TREES[source]))
                 for alias in node.names:
                     self.assertIn(alias.name, defined, (stem, node.lineno))
+
+    def test_imports_do_not_come_round(self):
+        above = {stem: {node.module.partition(".")[2] for node in imports(tree)} for stem, tree in TREES.items()}
+        while above:
+            free = [stem for stem in above if not above[stem] & set(above)]
+            self.assertNotEqual(free, [], sorted(above))
+            for stem in free:
+                del above[stem]
+
+    def test_methods_are_called_where_they_stand(self):
+        called = [node.func for stem, node in NODES if isinstance(node, ast.Call)]
+        for stem, node in NODES:
+            if isinstance(node, ast.Attribute):
+                self.assertIn(node.attr, METHODS, (stem, node.lineno))
+                self.assertIn(node, called, (stem, node.lineno))
 
     def test_imports_are_used(self):
         for stem, tree in TREES.items():

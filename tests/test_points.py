@@ -3,7 +3,9 @@ import unittest
 from fractions import Fraction
 
 from laidover.errors import BadPoint
-from laidover.points import difference, flipped, is_ahead, is_point, point, product, quotient, square_gap, total
+from laidover.points import (
+    difference, flipped, in_order, is_ahead, is_point, point, product, quotient, rows_in_order, square_gap, total,
+)
 from tests.samples import NO_POINTS, NO_WHOLE_NUMBERS, POINTS, model_gap, parts
 
 
@@ -147,6 +149,17 @@ class TestReckoning(unittest.TestCase):
         for p in POINTS:
             x, y = parts(p)
             self.assert_stands(flipped(p), x, -y)
+
+
+class TestInOrder(unittest.TestCase):
+    def test_points(self):
+        self.assertEqual(in_order(POINTS), sorted(POINTS, key=parts))
+        self.assertEqual(in_order(POINTS[::-1]), sorted(POINTS, key=parts))
+        self.assertEqual(in_order([]), [])
+
+    def test_rows(self):
+        rows = [[p, q] for p in POINTS for q in POINTS]
+        self.assertEqual(rows_in_order(rows), sorted(rows, key=lambda row: [parts(p) for p in row]))
 
 
 if __name__ == "__main__":
