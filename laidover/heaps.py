@@ -7,7 +7,7 @@ The others trust what they are handed.
 from laidover.errors import BadHeap
 from laidover.motions import need_motions, place_behind
 from laidover.numbers import rising
-from laidover.points import gap_between, in_order, is_point, lowest, total
+from laidover.points import gap_between, in_order, is_point, middle
 
 FEWEST_POINTS = 2
 MOST_POINTS = 14
@@ -40,10 +40,7 @@ def moved(motion, points):
 def mean(points):
     """The point in the middle of a heap."""
     need_heaps(points)
-    x, y, w = 0, 0, 1
-    for p in points:
-        x, y, w = total((x, y, w), p)
-    return lowest(x, y, w * len(points))
+    return middle(points)
 
 
 def gaps(points):

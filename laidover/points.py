@@ -79,6 +79,20 @@ def difference(p, q):
     return lowest(p[0] * q[2] - q[0] * p[2], p[1] * q[2] - q[1] * p[2], p[2] * q[2])
 
 
+def middle(points):
+    """The mean of one point or more."""
+    x, y, w = sum_of_points(points)
+    return lowest(x, y, w * len(points))
+
+
+def sum_of_points(points):
+    """All of these points together."""
+    together = (0, 0, 1)
+    for p in points:
+        together = total(together, p)
+    return together
+
+
 def product(p, q):
     """p times q."""
     return lowest(p[0] * q[0] - p[1] * q[1], p[0] * q[1] + p[1] * q[0], p[2] * q[2])

@@ -69,8 +69,13 @@ def ways_over(one, other):
     """All motions that lead one heap just to the other one, unchecked."""
     if len(one) != len(other):
         return []
-    # Few motions are tried so: as many pairs at most as there are points are
-    # farthest apart, while any other gap may be there far more often.
+    return ways_into(one, other)
+
+
+def ways_into(one, other):
+    """All motions that lead one heap to points of the other one, rising."""
+    # Between heaps as great few motions are tried so: as many pairs at most as
+    # there are points are farthest apart, but any other gap may be far more often.
     a, b = farthest_pairs(one)[0]
     pairs = pairs_by_gap(other).get(gap_between(a, b), [])
     tried = leading_to_pairs(a, b, pairs)

@@ -120,6 +120,35 @@ NO_HEAPS = NO_WHOLE_NUMBERS + [
     [{}, {}], [(0, 0, 1), ([], 0, 1)], [(0, 0, 1), set()], LOOPED,
 ]
 
+# Lists of as many points, 1 to 14, like ones among them.
+PARTNERS = [
+    ([(0, 0, 1)], [(3, -4, 5)]),
+    ([(7, 1, 2)], [(7, 1, 2)]),
+    ([(0, 0, 1), (0, 0, 1)], [(1, 0, 1), (0, 1, 1)]),
+    ([(1, 1, 1), (1, 1, 1), (1, 1, 1)], [(2, 3, 7), (2, 3, 7), (2, 3, 7)]),
+    ([(0, 0, 1), (4, 0, 1)], [(0, 0, 1), (0, 4, 1)]),
+    ([(0, 0, 1), (1, 0, 1)], [(0, 0, 1), (1, 1, 1)]),
+    (SQUARE, TILTED_SQUARE), (TILTED_SQUARE, SQUARE), (RHOMBUS, SLANTED), (UNEVEN, EVEN_SIDED), (ROW, UNEVEN_ROW),
+    (ROW, ROW[::-1]), (SQUARE, SQUARE[1:] + SQUARE[:1]), (WITH_SHARES, WITH_SHARES[::-1]),
+    (WITH_SHARES, SQUARE + [(0, 0, 1)]), (SQUARE + SQUARE[:2], RING[:6]), (list(PINWHEEL), RING[:8]),
+    (GRID, RING + RING[:2]), (FAR_OFF, UNEVEN),
+]
+
+# Each of them is refused as one list of partners, whatever the other one is.
+NO_PARTNERS = NO_WHOLE_NUMBERS + [
+    0, 2, "ab", b"ab", (0, 0, 1), ((0, 0, 1),), ((0, 0, 1), (1, 0, 1)), tuple(SQUARE),
+    [(x, 0, 1) for x in range(15)], [(0, 0, 1)] * 15, [(0, 0, 1)] * 100,
+    [[0, 0, 1]], [(0, 0, 2)], [(0, 0, 0)], [(1, 0, -1)], [(0, 0)], [(0, 0, 1, 1)], [None], [0], ["001"],
+    [(True, 0, 1)], [(0, False, 1)], [(0, 0, True)], [True], [[(0, 0, 1)]], [((0, 0, 1),)],
+    [(0, 0, 1), None], [(0, 0, 1), (0, 0, 2)], [(0, 0, 1), [0, 0, 1]], [(0, 0, 1), (True, 0, 1)],
+    {(0, 0, 1): 1}, {0: (0, 0, 1)}, {(0, 0, 1)}, frozenset([(0, 0, 1)]), iter([(0, 0, 1)]), range(1),
+    [Prickly()], [(0, 0, 1), Prickly()], [(0, Prickly(), 1)], [{}], [set()], LOOPED,
+]
+
+NO_FLIPS = NO_WHOLE_NUMBERS + [2, -1, 10 ** 30, "0", (0,), [1]]
+
+NO_NAMES = [thing for thing in NO_WHOLE_NUMBERS if thing.__class__ is not str] + ["", 0, 1, ("a",), ["a"], {"a": 1}]
+
 
 def parts(p):
     """Where a point stands, as two Fractions."""
@@ -140,6 +169,16 @@ def model_gap(p, q):
     """The square of how far two points are apart, as a Fraction."""
     (a, b), (c, d) = parts(p), parts(q)
     return (a - c) ** 2 + (b - d) ** 2
+
+
+def model_cost(one, other):
+    """The sum of the squares of how far partners are apart, as a Fraction."""
+    return sum(model_gap(p, q) for p, q in zip(one, other))
+
+
+def as_share(number):
+    """A Fraction as a share."""
+    return (number.numerator, number.denominator)
 
 
 def standing(x, y):

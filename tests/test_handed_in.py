@@ -1,12 +1,12 @@
-"""What holds of all that takes heaps: refusals, order, and what is told being new."""
+"""What holds of all that takes heaps or lists: refusals, order, and what is told being new."""
 
 import copy
 import unittest
 
-from laidover import forms, heaps, partly, whole
-from laidover.errors import BadHeap, BadMotion, BadNumber
+from laidover import copies, forms, heaps, partly, squares, texts, whole
+from laidover.errors import BadHeap, BadMotion, BadNumber, BadPairs
 from tests.samples import (
-    GRID, HEAPS, NO_HEAPS, NO_MOTIONS, PINWHEEL, RECTANGLE, SLANTED, SQUARE, UNEVEN, WITH_SHARES,
+    GRID, HEAPS, NO_HEAPS, NO_MOTIONS, NO_PARTNERS, PARTNERS, PINWHEEL, RECTANGLE, SLANTED, SQUARE, UNEVEN, WITH_SHARES,
 )
 
 MOTION = ((3, 4, 5), (1, -1, 2), 1)
@@ -14,15 +14,24 @@ MOTION = ((3, 4, 5), (1, -1, 2), 1)
 OF_ONE = [
     heaps.heap, heaps.mean, heaps.gaps, heaps.widest,
     whole.symmetries, whole.turns_of, whole.mirrors_of, whole.is_handed, whole.heart, whole.orbits,
-    forms.shape, forms.form,
+    forms.shape, forms.form, texts.heap_text,
+    lambda points: copies.pairs_at(points, (1, 1)),
 ]
 
 OF_TWO = [
     heaps.same_gaps, whole.laying, whole.alike, forms.similar, forms.scale,
     partly.best_over, partly.shifts, partly.best_shift, partly.quarter_turns, partly.common_part,
+    copies.placings, copies.copies, copies.apart_copies, copies.holds, copies.covering, squares.apart,
 ]
 
 WITH_MOTION = [partly.laid, partly.strays]
+
+OF_PARTNERS = [
+    squares.cost, squares.nearest_shift, squares.nearest_turn, squares.turn_motion,
+    lambda one, other: squares.nearest_turn(one, other, flip=1),
+    lambda one, other: squares.turn_motion(one, other, flip=1),
+    lambda one, other: squares.cost_behind(MOTION, one, other),
+]
 
 SOME_PAIRS = [
     (SQUARE, RECTANGLE), (SLANTED, WITH_SHARES), (UNEVEN, SQUARE), (PINWHEEL, GRID[:5]),
@@ -101,6 +110,21 @@ class TestRefusals(unittest.TestCase):
                 for flips in (True, False, 1, 0, None):
                     self.assert_refuses(BadHeap, partly.best_over, one, other, flips=flips)
 
+    def test_no_partners_beside_a_motion(self):
+        for thing in NO_PARTNERS:
+            for one, other in ((thing, SQUARE), (SQUARE, thing), (thing, thing)):
+                self.assert_refuses(BadPairs, squares.cost_behind, MOTION, one, other)
+                for motion in NO_MOTIONS[::7]:
+                    self.assert_refuses(BadMotion, squares.cost_behind, motion, one, other)
+        for motion in NO_MOTIONS:
+            self.assert_refuses(BadMotion, squares.cost_behind, motion, SQUARE, SQUARE)
+            self.assert_refuses(BadMotion, squares.cost_behind, motion, SQUARE, UNEVEN)
+
+    def test_heaps_are_looked_at_whatever_the_square_is(self):
+        for thing in NO_HEAPS:
+            for square in ((1, 1), None, [], "1", (1, 0), 1):
+                self.assert_refuses(BadHeap, copies.pairs_at, thing, square)
+
     def test_numbers_are_refused_where_nothing_is_laid_too(self):
         far = [(0, 0, 1), (1000, 0, 1)]
         for many in (1, 15, True, None):
@@ -155,6 +179,28 @@ class TestHandedIn(unittest.TestCase):
             self.assertNotEqual(first, kept)
             self.assertEqual((one, other), before)
             self.assertEqual(answers(one, other), kept)
+
+    def test_partners_stay(self):
+        for one, other in PARTNERS:
+            one, other = list(one), list(other)
+            before = copy.deepcopy((one, other))
+            all_asked = OF_PARTNERS + [squares.paired] if len(one) <= 6 else OF_PARTNERS
+            first = [asked(one, other) for asked in all_asked]
+            self.assertEqual((one, other), before)
+            self.assertEqual([asked(one, other) for asked in all_asked], first)
+            for asked in all_asked:
+                asked(one, one)
+            self.assertEqual((one, other), before)
+
+    def test_refused_partners_stay(self):
+        for thing in ([(1, 0, 1), [0, 0, 1]], [(2, 2, 2), (0, 0, 1)], [(0, 0, 1)] * 15, [[]], {1: [2]}, [(1, 1, 1)] * 3):
+            before = copy.deepcopy(thing)
+            for asked in OF_PARTNERS + [squares.paired]:
+                with self.assertRaises(BadPairs):
+                    asked(thing, [(0, 0, 1), (1, 0, 1)])
+                with self.assertRaises(BadPairs):
+                    asked([(0, 0, 1), (1, 0, 1)], thing)
+            self.assertEqual(thing, before)
 
     def test_told_heaps_may_be_handed_in_again(self):
         for points in HEAPS:

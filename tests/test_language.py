@@ -73,6 +73,14 @@ TEXTS = {path.stem: path.read_text(encoding="utf-8") for path in FILES}
 TREES = {stem: ast.parse(text) for stem, text in TEXTS.items()}
 NODES = [(stem, node) for stem, tree in TREES.items() for node in ast.walk(tree)]
 
+OWN_METHODS = {
+    row.name for stem, node in NODES if isinstance(node, ast.ClassDef)
+    for row in node.body if isinstance(row, ast.FunctionDef)
+}
+OWN_ATTRIBUTES = {
+    node.attr for stem, node in NODES if isinstance(node, ast.Attribute) and isinstance(node.ctx, ast.Store)
+}
+
 
 class TestLanguage(unittest.TestCase):
     def test_the_folder_has_python_files_alone(self):
@@ -132,9 +140,30 @@ class TestLanguage(unittest.TestCase):
     def test_methods_are_called_where_they_stand(self):
         called = [node.func for stem, node in NODES if isinstance(node, ast.Call)]
         for stem, node in NODES:
-            if isinstance(node, ast.Attribute):
-                self.assertIn(node.attr, METHODS, (stem, node.lineno))
+            if isinstance(node, ast.Attribute) and node.attr not in OWN_ATTRIBUTES:
+                self.assertIn(node.attr, METHODS | OWN_METHODS, (stem, node.lineno))
                 self.assertIn(node, called, (stem, node.lineno))
+
+    def test_own_methods_and_attributes(self):
+        self.assertEqual(OWN_METHODS & OWN_ATTRIBUTES, set())
+        known = {name for kind in (str, int, list, dict, set, bytes, tuple) for name in dir(kind)}
+        self.assertEqual(OWN_METHODS & known - METHODS, {"__init__", "__len__"} & OWN_METHODS)
+        self.assertEqual(OWN_ATTRIBUTES & known, set())
+
+    def test_attributes_are_assigned_through_self(self):
+        for stem, node in NODES:
+            if isinstance(node, ast.Attribute) and not isinstance(node.ctx, ast.Load):
+                self.assertEqual(getattr(node.value, "id", None), "self", (stem, node.lineno))
+
+    def test_nothing_is_caught(self):
+        for stem, node in NODES:
+            self.assertNotIsInstance(node, ast.Try, (stem, getattr(node, "lineno", None)))
+
+    def test_errors_are_made_where_they_are_raised(self):
+        for stem, node in NODES:
+            if isinstance(node, ast.Raise):
+                self.assertIsInstance(node.exc, ast.Call, (stem, node.lineno))
+                self.assertIn(node.exc.func.id, list(top_names(TREES["errors"])), (stem, node.lineno))
 
     def test_imports_are_used(self):
         for stem, tree in TREES.items():

@@ -4,7 +4,8 @@ from fractions import Fraction
 
 from laidover.errors import BadPoint
 from laidover.points import (
-    difference, flipped, in_order, is_ahead, is_point, point, product, quotient, rows_in_order, square_gap, total,
+    difference, flipped, in_order, is_ahead, is_point, middle, point, product, quotient, rows_in_order, square_gap,
+    sum_of_points, total,
 )
 from tests.samples import NO_POINTS, NO_WHOLE_NUMBERS, POINTS, model_gap, parts
 
@@ -138,6 +139,14 @@ class TestReckoning(unittest.TestCase):
                 self.assert_stands(total(p, q), a + c, b + d)
                 self.assert_stands(difference(p, q), a - c, b - d)
                 self.assert_stands(product(p, q), a * c - b * d, a * d + b * c)
+
+    def test_many_together(self):
+        for many in range(1, len(POINTS) + 1):
+            points = POINTS[-many:]
+            x, y = sum(parts(p)[0] for p in points), sum(parts(p)[1] for p in points)
+            self.assert_stands(sum_of_points(points), x, y)
+            self.assert_stands(middle(points), x / many, y / many)
+            self.assertEqual(middle([points[0]] * many), points[0])
 
     def test_quotient_times_what_divides(self):
         for p in POINTS:
